@@ -166,8 +166,8 @@ func wrongSources() []impl.Ival {
 }
 
 // Every list of at most most of these, in every order.
-func listsOf(pool []impl.Ival, most int) [][]impl.Ival {
-	lists := [][]impl.Ival{nil}
+func listsOf[T any](pool []T, most int) [][]T {
+	lists := [][]T{nil}
 	for from := 0; len(lists[from]) < most; from++ {
 		for _, a := range pool {
 			lists = append(lists, append(slices.Clone(lists[from]), a))

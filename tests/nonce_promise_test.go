@@ -362,9 +362,9 @@ func nonceCalls() map[string]func(t impl.Table) [][]impl.Ask {
 }
 
 // All that a list can be written into, its spare room too.
-func overwrite(list []impl.Ask) {
+func overwrite[T any](list []T, with T) {
 	for i := range list[:cap(list)] {
-		list[:cap(list)][i] = ak(-9, -9, -9, -9)
+		list[:cap(list)][i] = with
 	}
 }
 
@@ -383,7 +383,7 @@ func TestNonceAnswersShareNothing(t *testing.T) {
 					for j := range lists {
 						before[j] = slices.Clone(lists[j])
 					}
-					overwrite(list)
+					overwrite(list, ak(-9, -9, -9, -9))
 					for j := range lists {
 						if j != i && !slices.Equal(lists[j], before[j]) {
 							t.Fatalf("%s of %d asks: the list %d was written into by the list %d", name, asks, j, i)
