@@ -463,6 +463,19 @@ func askBus(list []impl.Frame) {
 	impl.BusQuiet(list, 5, 4)
 }
 
+// No more goroutines than there were before.
+func checkNobodyLeft(t *testing.T, before int) {
+	t.Helper()
+	// The last one may still be on its way out.
+	for range 1000 {
+		if runtime.NumGoroutine() <= before {
+			return
+		}
+		time.Sleep(5 * time.Millisecond)
+	}
+	t.Error("there were", before, "and are", runtime.NumGoroutine())
+}
+
 // What sends the frames of a bus has ended when all of them were ranged over, so no call leaves anyone waiting.
 func TestNobodyIsLeftSending(t *testing.T) {
 	before := runtime.NumGoroutine()
@@ -474,14 +487,7 @@ func TestNobodyIsLeftSending(t *testing.T) {
 			askBus(list)
 		}
 	}
-	// The last one may still be on its way out.
-	for range 1000 {
-		if runtime.NumGoroutine() <= before {
-			return
-		}
-		time.Sleep(5 * time.Millisecond)
-	}
-	t.Error("there were", before, "and are", runtime.NumGoroutine())
+	checkNobodyLeft(t, before)
 }
 
 // P23: one bus may be asked by several at once, and each is told what it is told alone.

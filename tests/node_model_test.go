@@ -565,9 +565,11 @@ func (l *lottery) ago(count int) int {
 	return max(0, count-l.number(40))
 }
 
-// A node that has come to the count, with what it knows around true time then, or beside it.
-func (l *lottery) node(count, truth int) impl.Node {
-	n := impl.NewNode(l.number(3))
+func (l *lottery) node(count, truth int) impl.Node { return l.nodeAt(l.number(3), count, truth) }
+
+// A node of that Id that has come to the count, with what it knows around true time then, or beside it.
+func (l *lottery) nodeAt(id, count, truth int) impl.Node {
+	n := impl.NewNode(id)
 	epoch := []int{0, l.number(9), impl.MaxEpoch - l.number(2)}[l.number(3)]
 	n.Life, n.Table.Epoch = lf(l.number(4), epoch, l.ago(count)), epoch
 	if n.Life.Mode == inDown {
